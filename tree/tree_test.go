@@ -85,7 +85,7 @@ func rights() []api.Node {
 	for _, name := range calls() {
 		out = append(out, call(name), call(name, leaf(number(7))), call(name, call(name)))
 	}
-	for n := range maxKids + 1 {
+	for n := range MaxKids + 1 {
 		out = append(out, call("SUM", bads(n)...))
 	}
 	return out
@@ -300,7 +300,7 @@ func TestP501RightOfWrongKids(t *testing.T) {
 		checkRight(t, pair("+", n, bad()), false)
 		checkRight(t, pair("+", bad(), n), false)
 		checkRight(t, call("SUM", n), false)
-		checkRight(t, call("SUM", append(bads(maxKids-1), n)...), false)
+		checkRight(t, call("SUM", append(bads(MaxKids-1), n)...), false)
 		checkRight(t, call("SUM", bad(), n, bad()), false)
 		checkRight(t, deep(api.MaxDepth, n), false)
 		checkRight(t, call("IF", bad(), pair("&", minus(n), bad()), bad()), false)
